@@ -1,6 +1,6 @@
 """What may be handed in, and what is refused."""
 
-from stealbeats.errors import BadAsks, BadBeats, BadMemory, BadProgram, BadWorks
+from stealbeats.errors import BadAsks, BadBeats, BadClaim, BadMemory, BadProgram, BadWindow, BadWorks, Crooked
 
 # The parts behind the word of each row; a "first" cell is one that has a next one.
 FORMS = {
@@ -34,7 +34,6 @@ BOUNDS = {
     "many": (1, 16),
     "block": (1, 4),
     "ask": (0, 200),
-    "beats": (0, 300),
 }
 
 GREEDS = ("all", "turn", "idle")
@@ -44,6 +43,8 @@ MOST_WORDS = 32
 MOST_ROWS = 40
 MOST_WORKS = 6
 MOST_ASKS = 8
+MOST_BEATS = 300
+WIDEST_WINDOW = 40
 
 
 def is_number(value, low, high):
@@ -90,6 +91,26 @@ def is_ask(ask, work_count, earliest):
     return is_part(when, "ask") and when >= earliest and is_one_of(work, work_count)
 
 
+def is_window(work, low, high, works):
+    if not is_one_of(work, len(works)) or not is_part(low, "ask") or not is_part(high, "ask"):
+        return False
+    return low <= high <= low + WIDEST_WINDOW
+
+
+def is_claim(claim, program, works):
+    if not isinstance(claim, tuple):
+        return False
+    match claim:
+        case ("over", work, row):
+            return is_one_of(work, len(works)) and is_one_of(row, len(program))
+        case ("whole", row):
+            return is_one_of(row, len(program)) and program[row][0] == "pair"
+        case ("kept", low, high, one, other):
+            stretch = is_part(low, "address") and is_part(high, "address") and low <= high
+            return stretch and is_one_of(one, len(program)) and is_one_of(other, len(program))
+    return False
+
+
 def check_program(program):
     if not isinstance(program, tuple) or not program:
         raise BadProgram(0)
@@ -125,5 +146,21 @@ def check_asks(asks, works):
 
 
 def check_beats(beats):
-    if not is_part(beats, "beats"):
+    if not is_number(beats, 0, MOST_BEATS):
         raise BadBeats("beats are a number from 0 to 300")
+
+
+def check_window(work, low, high, works):
+    if not is_window(work, low, high, works):
+        raise BadWindow("a window is a work that there is, and at most 41 beats from 0 to 200")
+
+
+def check_claim(claim, program, works):
+    if not is_claim(claim, program, works):
+        raise BadClaim("a claim is over, whole or kept, of works and rows that there are")
+
+
+def check_straight(program):
+    for row in program:
+        if row[0] in ("go", "if"):
+            raise Crooked("a straight program has no go and no if")

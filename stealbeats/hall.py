@@ -19,11 +19,9 @@ class Hall:
 
     def beat(self):
         """Does a beat; tells (what the device did, what the machine did)."""
-        for when, work in self.asks:
-            if when == self.beats:
-                self.device.start(work)
+        self.device.wake([work for when, work in self.asks if when == self.beats])
         wanted = self.machine.wanted() is not None
-        moved = self.device.move(wanted, self.machine.marks, self.words)
+        moved = self.device.move(self.beats, wanted, self.machine.marks, self.words)
         done = self.machine.step(self.words, self.device)
         self.beats += 1
         return moved, done
@@ -32,4 +30,4 @@ class Hall:
         """Tells (beats that were, row, cells, words, marks, works that are on)."""
         machine = self.machine
         row = None if machine.ended() else machine.row
-        return self.beats, row, list(machine.cells), list(self.words), list(machine.marks), self.device.goings()
+        return self.beats, row, list(machine.cells), list(self.words), list(machine.marks), self.device.shown_on()
