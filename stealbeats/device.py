@@ -74,10 +74,12 @@ class Device:
             self.start(number)
 
     def start(self, number):
-        if number < len(self.works) and self.works[number].going is None:
-            going = Going(number)
-            self.works[number].going = going
-            self.begun.append(going)
+        if number >= len(self.works):
+            return
+        work = self.works[number]
+        if work.going is None:
+            work.going = Going(number)
+            self.begun.append(work.going)
 
     def move(self, when, wanted, marks, words):
         number = self.taker(wanted, marks)
