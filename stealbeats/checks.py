@@ -1,6 +1,8 @@
 """What may be handed in, and what is refused."""
 
-from stealbeats.errors import BadAsks, BadBeats, BadClaim, BadMemory, BadProgram, BadWindow, BadWorks, Crooked
+from stealbeats.errors import (
+    BadAsks, BadBeats, BadClaim, BadLog, BadMemory, BadProgram, BadRow, BadWindow, BadWorks, Crooked,
+)
 
 # The parts behind the word of each row; a "first" cell is one that has a next one.
 FORMS = {
@@ -37,6 +39,10 @@ BOUNDS = {
 }
 
 GREEDS = ("all", "turn", "idle")
+DEEDS = ("get", "put")
+
+# What a machine does in a beat in which it gets or puts no word.
+WORDLESS = ("waits", "goes", "ends")
 
 FEWEST_WORDS = 4
 MOST_WORDS = 32
@@ -97,6 +103,10 @@ def is_window(work, low, high, works):
     return low <= high <= low + WIDEST_WINDOW
 
 
+def is_pair(row, program):
+    return is_one_of(row, len(program)) and program[row][0] == "pair"
+
+
 def is_claim(claim, program, works):
     if not isinstance(claim, tuple):
         return False
@@ -104,11 +114,33 @@ def is_claim(claim, program, works):
         case ("over", work, row):
             return is_one_of(work, len(works)) and is_one_of(row, len(program))
         case ("whole", row):
-            return is_one_of(row, len(program)) and program[row][0] == "pair"
+            return is_pair(row, program)
         case ("kept", low, high, one, other):
             stretch = is_part(low, "address") and is_part(high, "address") and low <= high
             return stretch and is_one_of(one, len(program)) and is_one_of(other, len(program))
     return False
+
+
+def is_deed(told):
+    """Whether it is a deed, an address and a word, as a Hall tells them."""
+    if not isinstance(told, tuple) or len(told) != 3:
+        return False
+    deed, address, word = told
+    return deed in DEEDS and is_part(address, "address") and is_part(word, "word")
+
+
+def is_moved(told):
+    """Whether it is what a Hall may tell of a device, whichever words and works there are."""
+    if told is None:
+        return True
+    return isinstance(told, tuple) and len(told) == 4 and is_part(told[0], "work") and is_deed(told[1:])
+
+
+def is_told(beat):
+    if not isinstance(beat, tuple) or len(beat) != 2:
+        return False
+    moved, did = beat
+    return is_moved(moved) and (did in WORDLESS or is_deed(did))
 
 
 def check_program(program):
@@ -145,6 +177,13 @@ def check_asks(asks, works):
         earliest = ask[0]
 
 
+def check_hall(program, works, memory, asks):
+    check_program(program)
+    check_works(works)
+    check_memory(memory)
+    check_asks(asks, works)
+
+
 def check_beats(beats):
     if not is_number(beats, 0, MOST_BEATS):
         raise BadBeats("beats are a number from 0 to 300")
@@ -155,9 +194,39 @@ def check_window(work, low, high, works):
         raise BadWindow("a window is a work that there is, and at most 41 beats from 0 to 200")
 
 
+def check_windowed(program, works, memory, work, low, high):
+    check_program(program)
+    check_works(works)
+    check_memory(memory)
+    check_window(work, low, high, works)
+
+
 def check_claim(claim, program, works):
     if not is_claim(claim, program, works):
         raise BadClaim("a claim is over, whole or kept, of works and rows that there are")
+
+
+def check_pair(row, program):
+    if not is_pair(row, program):
+        raise BadRow("this row is none of the program's pairs")
+
+
+def check_mark(mark):
+    if not is_part(mark, "mark"):
+        raise BadRow("a mark is a number from 0 to 2")
+
+
+def check_address(address, memory):
+    if not is_one_of(address, len(memory)):
+        raise BadRow("there is no word of this address")
+
+
+def check_log(log):
+    if not isinstance(log, list):
+        raise BadLog(0)
+    for at, beat in enumerate(log):
+        if at == MOST_BEATS or not is_told(beat):
+            raise BadLog(at)
 
 
 def check_straight(program):

@@ -1,16 +1,12 @@
 """What may be leaned on, whenever in a window a work is asked."""
 
-from stealbeats.checks import MOST_BEATS, check_claim, check_memory, check_program, check_window, check_works
-from stealbeats.torn import tears
+from stealbeats.checks import MOST_BEATS, check_claim, check_windowed
+from stealbeats.torn import is_whole
 from stealbeats.watch import Watch
 
 
 def is_over(watch, work, row):
     return row not in watch.dones or work not in watch.on_behind[row]
-
-
-def is_whole(watch, works, size, row):
-    return row not in [tear[0] for tear in tears(watch, works, size)]
 
 
 def is_kept(watch, low, high, one, other):
@@ -34,10 +30,7 @@ def holds(claim, watch, works, size):
 
 def leans(program, works, memory, work, low, high, claim):
     """The least beat of the window at which the work is asked so that the claim doesn't hold, or None."""
-    check_program(program)
-    check_works(works)
-    check_memory(memory)
-    check_window(work, low, high, works)
+    check_windowed(program, works, memory, work, low, high)
     check_claim(claim, program, works)
     for when in range(low, high + 1):
         watch = Watch(program, works, memory, [(when, work)])

@@ -1,12 +1,12 @@
 """Pairs that are torn by goings of works."""
 
-from stealbeats.checks import MOST_BEATS, check_beats, check_memory, check_program, check_window, check_works
+from stealbeats.checks import MOST_BEATS, check_beats, check_hall, check_windowed
 from stealbeats.watch import Watch
 
 
 def lays_at(work, address, size):
     goal, many = work[1], work[2]
-    return any([(goal + nth) % size == address for nth in range(many)])
+    return (address - goal) % size < many
 
 
 def laid_ahead(going, got):
@@ -22,31 +22,38 @@ def is_torn(pair, going, work, size):
     return laid_ahead(going, first) != laid_ahead(going, second)
 
 
-def tears(watch, works, size):
-    """(row, beat of the second get, work) of each pair seen and each going that tears it."""
+def tears(watch, pairs, works, size):
+    """(row, beat of the second get, work) of each of these pairs and each going that tears it."""
     told = []
-    for pair in watch.pairs:
+    for pair in pairs:
         for going in watch.goings:
             if is_torn(pair, going, works[going.number], size):
                 told.append((pair[0], pair[2][0], going.number))
     return told
 
 
+def is_whole(watch, works, size, row):
+    pairs = [pair for pair in watch.pairs if pair[0] == row]
+    return not tears(watch, pairs, works, size)
+
+
+def tears_within(program, works, memory, asks, beats):
+    watch = Watch(program, works, memory, asks)
+    watch.run(beats)
+    return tears(watch, watch.pairs, works, len(memory))
+
+
 def torns(program, works, memory, asks, beats):
     """(row, beat of the second get, work) of all pairs that are torn within so many beats."""
-    watch = Watch(program, works, memory, asks)
+    check_hall(program, works, memory, asks)
     check_beats(beats)
-    watch.run(beats)
-    return tears(watch, works, len(memory))
+    return tears_within(program, works, memory, asks, beats)
 
 
 def first_torn(program, works, memory, work, low, high):
     """The least beat of the window at which the work is asked so that a pair is torn, or None."""
-    check_program(program)
-    check_works(works)
-    check_memory(memory)
-    check_window(work, low, high, works)
+    check_windowed(program, works, memory, work, low, high)
     for when in range(low, high + 1):
-        if torns(program, works, memory, [(when, work)], MOST_BEATS):
+        if tears_within(program, works, memory, [(when, work)], MOST_BEATS):
             return when
     return None

@@ -1,10 +1,10 @@
-"""A hall that is watched: when rows are done, which pairs are got, which goings there are."""
+"""A floor that is watched: when rows are done, which pairs are got, which goings there are."""
 
-from stealbeats.hall import Hall
+from stealbeats.floor import Floor
 
 
 class Watch:
-    """A hall for so many beats, and what was seen of it.
+    """A floor for so many beats, and what was seen of it.
 
     dones: of each row that was done, the beat in which it was first.
     on_behind: of each such row the works that are on behind that beat.
@@ -13,7 +13,7 @@ class Watch:
     """
 
     def __init__(self, program, works, memory, asks):
-        self.hall = Hall(program, works, memory, asks)
+        self.floor = Floor(program, works, memory, asks)
         self.dones = {}
         self.on_behind = {}
         self.pairs = []
@@ -24,19 +24,24 @@ class Watch:
         for done in range(beats):
             self.step()
 
+    def run_till(self, row, beats):
+        """Till the row is done, but no more than so many beats."""
+        while row not in self.dones and self.floor.beats < beats:
+            self.step()
+
     def step(self):
-        hall = self.hall
-        when, row = hall.beats, hall.machine.row
-        moved, did = hall.beat()
-        self.goings.extend(hall.device.begun)
+        floor = self.floor
+        when, row = floor.beats, floor.machine.row
+        moved, did = floor.pass_beat()
+        self.goings.extend(floor.device.begun)
         if did in ("waits", "ends"):
             return
-        last = hall.machine.spent == 0
-        if hall.machine.program[row][0] == "pair":
+        last = floor.machine.spent == 0
+        if floor.machine.program[row][0] == "pair":
             self.note_get(row, when, did[1], last)
         if last and row not in self.dones:
             self.dones[row] = when
-            self.on_behind[row] = hall.device.numbers_on()
+            self.on_behind[row] = floor.device.numbers_on()
 
     def note_get(self, row, when, address, last):
         if last:

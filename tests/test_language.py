@@ -1,6 +1,7 @@
 """The form of the code: what of the rules can be seen with little."""
 
 import ast
+import builtins
 import pathlib
 import re
 import unittest
@@ -54,6 +55,42 @@ class Language(unittest.TestCase):
                 if isinstance(node, ast.Constant):
                     self.assertNotIsInstance(node.value, float, name)
                     self.assertNotIn("%", str(node.value), name)
+
+    def test_attributes_are_assigned_through_a_local_name(self):
+        for name, text, tree in self.each():
+            for node in ast.walk(tree):
+                if isinstance(node, ast.Attribute) and isinstance(node.ctx, ast.Store):
+                    self.assertIsInstance(node.value, ast.Name, (name, node.lineno))
+
+    def test_local_names_are_their_own(self):
+        for name, text, tree in self.each():
+            taken = {alias.name for node in tree.body if isinstance(node, ast.ImportFrom) for alias in node.names}
+            taken |= {node.name for node in tree.body if isinstance(node, ast.ClassDef)} | set(dir(builtins))
+            for node in ast.walk(tree):
+                if isinstance(node, ast.arg):
+                    self.assertNotIn(node.arg, taken, name)
+                if isinstance(node, ast.Name) and isinstance(node.ctx, ast.Store):
+                    self.assertNotIn(node.id, taken, name)
+
+    def test_files_do_not_import_each_other_in_a_ring(self):
+        imports = {name[:-3]: {node.module.split(".")[1] for node in tree.body if isinstance(node, ast.ImportFrom)}
+                   for name, text, tree in self.each()}
+        while imports:
+            free = [name for name in imports if not imports[name] & set(imports)]
+            self.assertTrue(free, sorted(imports))
+            imports = {name: imports[name] for name in imports if name not in free}
+
+    def test_names_are_imported_from_the_file_that_defines_them(self):
+        trees = {name[:-3]: tree for name, text, tree in self.each()}
+        for name, tree in trees.items():
+            for node in [node for node in tree.body if isinstance(node, ast.ImportFrom)]:
+                body = trees[node.module.split(".")[1]].body
+                defined = {part.name for part in body if isinstance(part, (ast.FunctionDef, ast.ClassDef))}
+                defined |= {part.targets[0].id for part in body if isinstance(part, ast.Assign)}
+                used = {part.id for part in ast.walk(tree) if isinstance(part, ast.Name)}
+                for alias in node.names:
+                    self.assertIn(alias.name, defined & used, name)
+                    self.assertIsNone(alias.asname)
 
     def test_no_name_is_a_method_and_an_attribute(self):
         methods, attributes = set(), set()

@@ -1,15 +1,20 @@
-"""Points 1 to 6 and 9: what is refused, where, and in which order; what lies at the edges is let by."""
+"""Points 1 to 6 and 9: what is refused, by all that are handed such, where, and in which order; edges are let by."""
 
 import unittest
 
-from stealbeats.errors import BadAsks, BadBeats, BadMemory, BadProgram, BadWorks
+from stealbeats.errors import (BadAsks, BadBeats, BadClaim, BadLog, BadMemory, BadProgram, BadRow, BadWindow, BadWorks,
+                               Crooked)
 from stealbeats.hall import Hall
+from stealbeats.judging import judged
+from stealbeats.notes import read, written
 from stealbeats.runs import run
+from stealbeats.sights import sights, worths
+from stealbeats.torn import torns
+from tests.every import ALL, NO_NUMBERS, having, refusal
 
 END = (("end",),)
 WORDS = [0, 1, 2, 3]
 WORK = (0, 2, 1, 1, "all", None, None)
-NO_NUMBERS = (True, False, None, "1", "", (), (1,))
 
 # A good row for each word, and for each number in it (place, least, most); 1 row is handed in.
 ROWS = (
@@ -38,21 +43,33 @@ def with_part(row, place, value):
     return row[:place] + (value,) + row[place + 1:]
 
 
+# Refused behind what is refused of programs, works, words and asks: so these were let by.
+LATER = (BadWindow, BadClaim, BadRow, BadLog, Crooked)
+
+
 class Refusals(unittest.TestCase):
-    def refused(self, kind, at, program=END, works=(), memory=WORDS, asks=()):
+    def others(self, program, works, memory, asks):
         works = list(works) if isinstance(works, tuple) else works
         asks = list(asks) if isinstance(asks, tuple) else asks
-        for make in (Hall, lambda *handed: run(*handed, 3)):
-            with self.assertRaises(kind) as caught:
-                make(program, works, memory, asks)
-            self.assertIs(caught.exception.__class__, kind)
+        return {"program": program, "works": works, "memory": memory, "asks": asks}
+
+    def refused(self, kind, at, program=END, works=(), memory=WORDS, asks=()):
+        name = {BadProgram: "program", BadWorks: "works", BadMemory: "memory", BadAsks: "asks"}[kind]
+        for function in having(name):
+            error = refusal(function, **self.others(program, works, memory, asks))
+            self.assertIs(error.__class__, kind, function)
             if at is not None:
-                self.assertEqual(caught.exception.at, at)
-                self.assertNotIsInstance(caught.exception.at, bool)
+                self.assertEqual(error.at, at)
+                self.assertNotIsInstance(error.at, bool)
 
     def let_by(self, program=END, works=(), memory=WORDS, asks=()):
-        Hall(program, list(works), memory, list(asks)).beat()
-        run(program, list(works), memory, list(asks), 3)
+        others = self.others(program, works, memory, asks)
+        for function in ALL:
+            error = refusal(function, **others)
+            plain = function in (Hall, run, torns, sights, worths, judged, written)
+            self.assertTrue(error is None or not plain and isinstance(error, LATER), (function, error))
+        self.assertEqual(read(written(program, list(works), memory, list(asks))),
+                         (program, list(works), memory, list(asks)))
 
 
 class Programs(Refusals):

@@ -1,51 +1,29 @@
-"""What times, overs, spread, torns, first_torn and leans refuse, in which order, and what they let by."""
+"""What each function refuses, in which order, and what it lets by; point 1 for each of them."""
 
 import unittest
 
 from stealbeats.ahead import overs, spread, times
-from stealbeats.errors import (BadAsks, BadBeats, BadClaim, BadMemory, BadProgram, BadWindow, BadWorks, BeatError,
+from stealbeats.errors import (BadAsks, BadBeats, BadClaim, BadLog, BadMemory, BadProgram, BadRow, BadWindow, BadWorks,
                                Crooked)
+from stealbeats.hall import Hall
+from stealbeats.judging import judged
 from stealbeats.leans import leans
+from stealbeats.resting import guards, rests
+from stealbeats.runs import run
+from stealbeats.sights import sights, worths
 from stealbeats.torn import first_torn, torns
-
-PAIR = ("pair", 0, 0)
-PROGRAM = (("rest", 1), PAIR, ("get", 0, 1))
-WORK = (0, 0, 2, 1, "idle", None, None)
-WORKS = [WORK, WORK]
-WORDS = [0, 1, 2, 3]
-NO_NUMBERS = (True, False, None, "1", "", (), (1,))
-BEYOND = (-1, 10 ** 30, -10 ** 30)
-
-# Each function with the names of what is handed in, in turn.
-STRAIGHT = {times: "program works asks", overs: "program works asks", spread: "program works work low high"}
-CROOKED = {torns: "program works memory asks beats", first_torn: "program works memory work low high",
-           leans: "program works memory work low high claim"}
-ALL = {**STRAIGHT, **CROOKED}
-GOOD = {"program": PROGRAM, "works": WORKS, "memory": WORDS, "asks": [(3, 1)], "beats": 9, "work": 1, "low": 2,
-        "high": 4, "claim": ("whole", 1)}
-BAD = {"program": (("rest", 0),), "works": [None], "memory": [1, 2, 3], "asks": [(0, 0), (201, 0)], "beats": 301,
-       "work": 2, "low": -1, "high": 1, "claim": ("whole", 0)}
-KINDS = {"program": BadProgram, "works": BadWorks, "memory": BadMemory, "asks": BadAsks, "beats": BadBeats,
-         "work": BadWindow, "low": BadWindow, "high": BadWindow, "claim": BadClaim}
-
-
-def handed(function, **others):
-    return [others.get(name, GOOD[name]) for name in ALL[function].split()]
+from tests.every import ALL, BAD, BEYOND, CROOKED, KINDS, NO_NUMBERS, PAIR, STRAIGHT, WORK, called, having, refusal
 
 
 class Refusals(unittest.TestCase):
     def refused(self, kind, function, at=None, **others):
-        with self.assertRaises(BeatError, msg=(function.__name__, others)) as caught:
-            function(*handed(function, **others))
-        self.assertIs(caught.exception.__class__, kind, (function.__name__, others))
+        error = refusal(function, **others)
+        self.assertIs(error.__class__, kind, (function.__name__, others))
         if at is not None:
-            self.assertEqual(caught.exception.at, at)
+            self.assertEqual(error.at, at)
 
     def let_by(self, function, **others):
-        return function(*handed(function, **others))
-
-    def having(self, name):
-        return [function for function in ALL if name in ALL[function].split()]
+        return called(function, **others)
 
 
 class Each(Refusals):
@@ -73,7 +51,7 @@ class Each(Refusals):
             self.let_by(function, works=[WORK[:6] + (5,)] * 6)
 
     def test_words(self):
-        for function in self.having("memory"):
+        for function in having("memory"):
             for memory in ([], [0] * 3, [0] * 33, [0, 0, 0, 1000], [-1, 0, 0, 0], [0, True, 0, 0], [0, None, 0, 0],
                            ["0", 0, 0, 0]):
                 self.refused(BadMemory, function, memory=memory)
@@ -81,7 +59,7 @@ class Each(Refusals):
                 self.let_by(function, memory=memory)
 
     def test_asks(self):
-        for function in self.having("asks"):
+        for function in having("asks"):
             for ask in ((201, 0), (-1, 0), (5, 2), (5, -1), (2, 0), (5,), (5, 0, 0), None, "50", 5, (True, 0), (5, None),
                         ("5", 0), (5, False)):
                 self.refused(BadAsks, function, 1, asks=[(3, 0), ask])
@@ -90,15 +68,16 @@ class Each(Refusals):
             self.let_by(function, asks=[])
 
     def test_beats(self):
-        for beats in BEYOND + NO_NUMBERS + (301,):
-            self.refused(BadBeats, torns, beats=beats)
-        for beats in (0, 1, 299, 300):
-            self.let_by(torns, beats=beats)
+        for function in having("beats"):
+            for beats in BEYOND + NO_NUMBERS + (301,):
+                self.refused(BadBeats, function, beats=beats)
+            for beats in (0, 1, 299, 300):
+                self.let_by(function, beats=beats)
 
 
 class Windows(Refusals):
     def test_works(self):
-        for function in self.having("work"):
+        for function in having("work"):
             for who in BEYOND + NO_NUMBERS + (2, 5, 6):
                 self.refused(BadWindow, function, work=who)
             self.refused(BadWindow, function, works=[], work=0)
@@ -107,7 +86,7 @@ class Windows(Refusals):
             self.let_by(function, works=[WORK] * 6, work=5)
 
     def test_beats(self):
-        for function in self.having("low"):
+        for function in having("low"):
             for low, high in ((0, 0), (0, 40), (1, 41), (160, 200), (200, 200), (199, 200), (7, 7)):
                 self.let_by(function, low=low, high=high)
             for low, high in ((0, 41), (1, 42), (159, 200), (160, 201), (200, 201), (201, 201), (-1, 0), (-1, -1),
@@ -185,11 +164,48 @@ class Claims(Refusals):
         self.refused(BadClaim, leans, program=program, works=works, claim=("over", 5, 40))
 
 
+class Rows(Refusals):
+    def test_rows_that_are_no_pairs(self):
+        for function in having("row"):
+            self.let_by(function, row=1)
+            for row in BEYOND + NO_NUMBERS + (0, 2, 3, -2, 39, 40):
+                self.refused(BadRow, function, row=row)
+            for other in (("set", 0, 0), ("add", 0, 0), ("less", 0, 0), ("get", 0, 0), ("put", 0, 0), ("getx", 0, 0),
+                          ("putx", 0, 0), ("lay", 0, 0), ("go", 0), ("if", 0, 0), ("ask", 0), ("done", 0, 0),
+                          ("mark", 0), ("clear", 0), ("rest", 2), ("end",)):
+                self.refused(BadRow, function, program=(PAIR, other, PAIR))
+
+    def test_the_first_and_the_last_row(self):
+        for function in having("row"):
+            self.let_by(function, program=(PAIR,), row=0)
+            self.refused(BadRow, function, program=(PAIR,), row=1)
+            self.refused(BadRow, function, program=(PAIR,), row=-1)
+            self.refused(BadRow, function, program=(PAIR,), row=False)
+            self.refused(BadRow, function, program=(PAIR, PAIR), row=True)
+            self.let_by(function, program=(PAIR,) * 40, row=0)
+            self.let_by(function, program=(PAIR,) * 40, row=39)
+            self.refused(BadRow, function, program=(PAIR,) * 40, row=40)
+
+    def test_marks(self):
+        for mark in (0, 1, 2):
+            self.let_by(guards, mark=mark)
+        for mark in BEYOND + NO_NUMBERS + (3, 5):
+            self.refused(BadRow, guards, mark=mark)
+            self.refused(BadRow, guards, row=mark, mark=mark)
+
+    def test_addresses(self):
+        for size in (4, 5, 31, 32):
+            for address in (0, 1, size - 1):
+                self.let_by(worths, memory=[7] * size, address=address)
+            for address in BEYOND + NO_NUMBERS + (size, size + 1, 33):
+                self.refused(BadRow, worths, memory=[7] * size, address=address)
+
+
 class Straight(Refusals):
     def test_crooked(self):
         for function in STRAIGHT:
             for row in (("go", 0), ("if", 0, 0), ("go", 2), ("if", 3, 2)):
-                for program in ((row, PAIR, PAIR), (PAIR, PAIR, row), (PAIR, ("end",), row)):
+                for program in ((row, PAIR, PAIR), (PAIR, PAIR, row), (("end",), PAIR, row)):
                     self.refused(Crooked, function, program=program)
 
     def test_other_rows_are_straight(self):
@@ -198,7 +214,7 @@ class Straight(Refusals):
                 ("rest", 9), ("end",))
         for function in STRAIGHT:
             for row in rows:
-                self.let_by(function, program=(row, row))
+                self.let_by(function, program=(row, PAIR, row))
 
     def test_crooked_ones_are_let_by_elsewhere(self):
         for function in CROOKED:
@@ -228,66 +244,101 @@ class Order(Refusals):
         for function in ALL:
             self.refused(BadWorks, function, 6, works=[WORK] * 7, asks=[(0, 7)], work=7)
 
+    def test_rows_and_marks_behind_windows(self):
+        for function in (rests, guards):
+            self.refused(BadWindow, function, low=5, high=4, row=0, mark=3)
+            self.refused(BadWindow, function, work=None, row=None, mark=None)
+            self.refused(BadRow, function, program=(("go", 0), ("rest", 1)), row=1)
+        self.refused(BadRow, guards, program=(("go", 0), PAIR), mark=3)
+
+    def test_addresses_and_logs_behind_all_else(self):
+        self.refused(BadBeats, worths, beats=301, address=4)
+        self.refused(BadMemory, worths, memory=[1, 2, 3], address=3)
+        self.refused(BadAsks, judged, 0, asks=[(0, 2)], log=[None])
+        self.refused(BadLog, judged, 1, log=[(None, "waits"), None])
+
 
 class Apart(Refusals):
-    """Point 1, for these functions."""
+    """Point 1, for each function."""
 
     program = (("ask", 0), ("rest", 2), ("pair", 0, 0), ("mark", 0), ("pair", 1, 1), ("get", 0, 1), ("rest", 4))
     works = [(0, 0, 5, 1, "turn", 0, 1), (1, 1, 3, 2, "all", None, None)]
     words = [5, 6, 7, 8]
     asks = [(20, 1), (29, 1)]
+    lists = (times, overs, spread, torns, sights, worths)
 
-    def with_these(self, function, works, words, asks):
-        return self.let_by(function, program=self.program, works=works, memory=words, asks=asks, low=0, high=12,
-                           beats=60, claim=("kept", 0, 3, 1, 6))
+    def setUp(self):
+        self.log = run(self.program, self.works, self.words, self.asks, 60)[0]
+        self.log[50] = (None, "waits")
+
+    def handed(self):
+        return list(self.works), list(self.words), list(self.asks), list(self.log)
+
+    def with_these(self, function, works, words, asks, log):
+        told = self.let_by(function, program=self.program, works=works, memory=words, asks=asks, log=log, work=1,
+                           low=0, high=12, beats=60, claim=("kept", 0, 3, 1, 6), row=2, mark=0, address=1)
+        return [(told.beat(), told.shown()) for beat in range(60)] if function == Hall else told
 
     def test_nothing_handed_in_is_changed(self):
         for function in ALL:
-            works, words, asks = list(self.works), list(self.words), list(self.asks)
-            self.with_these(function, works, words, asks)
-            self.assertEqual((works, words, asks), (self.works, self.words, self.asks))
+            lists = self.handed()
+            self.with_these(function, *lists)
+            self.assertEqual(lists, self.handed())
 
     def test_nothing_handed_in_is_kept(self):
         for function in ALL:
-            works, words, asks = list(self.works), list(self.words), list(self.asks)
-            told = self.with_these(function, works, words, asks)
+            works, words, asks, log = self.handed()
+            told = self.with_these(function, works, words, asks, log)
             works[0] = (0, 0, 1, 1, "idle", None, None)
             words[:] = [1] * 9
             asks.clear()
-            other = self.with_these(function, list(works), list(words), list(asks))
-            again = self.with_these(function, list(self.works), list(self.words), list(self.asks))
-            self.assertEqual(again, told)
-            self.assertEqual(self.with_these(function, works, words, asks), other)
+            log[2:] = []
+            other = self.with_these(function, list(works), list(words), list(asks), list(log))
+            self.assertEqual(self.with_these(function, *self.handed()), told)
+            self.assertEqual(self.with_these(function, works, words, asks, log), other)
 
     def test_what_is_told_may_be_changed(self):
-        for function in (times, overs, spread, torns):
-            told = self.with_these(function, self.works, self.words, self.asks)
+        for function in self.lists:
+            told = self.with_these(function, *self.handed())
             kept = list(told)
             self.assertNotEqual(kept, [])
             told.clear()
             told.append(None)
-            self.assertEqual(self.with_these(function, self.works, self.words, self.asks), kept)
+            self.assertEqual(self.with_these(function, *self.handed()), kept)
 
     def test_asked_again_the_same_is_told(self):
         for function in ALL:
-            first = self.with_these(function, self.works, self.words, self.asks)
+            first = self.with_these(function, *self.handed())
             for other in ALL:
-                self.with_these(other, self.works, self.words, self.asks)
-            self.assertEqual(self.with_these(function, self.works, self.words, self.asks), first)
+                self.with_these(other, *self.handed())
+            self.assertEqual(self.with_these(function, *self.handed()), first)
 
     def test_a_refusal_changes_nothing(self):
-        for function in ALL:
-            works, words, asks = [WORK] * 2 + [None], [1, 2, 3], [(0, 0), (201, 0)]
-            with self.assertRaises(BeatError):
-                self.with_these(function, works, words, asks)
-            self.assertEqual((works, words, asks), ([WORK, WORK, None], [1, 2, 3], [(0, 0), (201, 0)]))
+        for name in BAD:
+            for function in having(name):
+                others = dict(zip(("works", "memory", "asks", "log"), self.handed()))
+                others = {**others, "program": self.program, "row": 2, "claim": ("whole", 2)}
+                if name in ("works", "memory", "asks", "log"):
+                    others[name].append(True)
+                else:
+                    others[name] = BAD[name]
+                kept = {key: list(others[key]) for key in ("works", "memory", "asks", "log")}
+                self.refused(KINDS[name], function, **others)
+                self.assertEqual({key: others[key] for key in kept}, kept)
 
     def test_kinds_of_what_is_told(self):
-        for function in (times, overs, spread, torns):
-            self.assertIs(self.with_these(function, self.works, self.words, self.asks).__class__, list)
-        for function in (spread, torns):
-            for row in self.with_these(function, self.works, self.words, self.asks):
+        for function in self.lists:
+            self.assertIs(self.with_these(function, *self.handed()).__class__, list)
+        for function in (spread, torns, worths):
+            for row in self.with_these(function, *self.handed()):
                 self.assertIs(row.__class__, tuple)
                 self.assertTrue(all(part is None or part.__class__ is int for part in row))
+        for who, when, address, last in self.with_these(sights, *self.handed()):
+            self.assertTrue({who.__class__, when.__class__, address.__class__} <= {int, None.__class__})
+            self.assertIn(last.__class__, (tuple, None.__class__))
         self.assertIs(self.let_by(leans, claim=("over", 1, 2)).__class__, int)
         self.assertIs(self.let_by(first_torn, program=(("rest", 2), PAIR), low=0, high=1).__class__, int)
+        for function in (rests, guards):
+            self.assertIs(self.with_these(function, *self.handed()).__class__, int)
+        self.assertEqual(self.with_these(judged, *self.handed()), 50)
+        self.assertIs(self.with_these(judged, *self.handed()).__class__, int)
